@@ -1,0 +1,1 @@
+"""Quadwords: tables of four whole numbers, made of told ones."""
