@@ -14,6 +14,9 @@ OWN_OF_PYTHON = ("len range enumerate zip min max sum abs sorted reversed int st
                  "isinstance ord repr any all divmod ValueError KeyError ZeroDivisionError IndexError").split()
 NODES_OUT = (ast.With, ast.Global, ast.Nonlocal, ast.Yield, ast.YieldFrom, ast.Await, ast.AsyncFunctionDef, ast.Match,
              ast.GeneratorExp, ast.NamedExpr, ast.Div, ast.Import)
+METHODS_OF_PYTHON = ("append clear copy count endswith extend find get index insert items join keys pop remove replace "
+                     "reverse setdefault split startswith strip update upper lower values zfill isdigit").split()
+WALKED_AT_ONCE = "zip enumerate reversed range".split()
 
 
 def trees():
@@ -67,6 +70,35 @@ class Language(unittest.TestCase):
             self.assertEqual(sorted(bound & (drawn | set(dir(builtins)))), [], name)
             self.assertEqual([each for each in sorted(bound) if each.startswith("_")], [], name)
             self.assertEqual(sorted(read - bound - drawn - set(OWN_OF_PYTHON)), [], name)
+
+    def test_is_stands_beside_none_and_truths_alone(self):
+        for name, tree in trees():
+            for node in ast.walk(tree):
+                if isinstance(node, ast.Compare) and any(isinstance(sign, (ast.Is, ast.IsNot)) for sign in node.ops):
+                    things = [node.left, *node.comparators]
+                    plain = [each for each in things if isinstance(each, ast.Constant) and each.value in (None, True, False)]
+                    self.assertTrue(plain, (name, node.lineno))
+
+    def test_methods_are_listed_or_own(self):
+        own = {node.name for name, tree in trees() for node in ast.walk(tree) if isinstance(node, ast.FunctionDef)}
+        for name, tree in trees():
+            for node in ast.walk(tree):
+                if isinstance(node, ast.Attribute):
+                    self.assertIn(node.attr, own.union(METHODS_OF_PYTHON), (name, node.lineno))
+
+    def test_walks_are_not_kept(self):
+        for name, tree in trees():
+            for node in ast.walk(tree):
+                if isinstance(node, (ast.Assign, ast.Return)) and isinstance(node.value, ast.Call):
+                    self.assertNotIn(getattr(node.value.func, "id", ""), WALKED_AT_ONCE, (name, node.lineno))
+
+    def test_no_two_files_draw_from_one_another(self):
+        drawn = {name[:-3]: {node.module.split(".")[1] for node in ast.walk(tree) if isinstance(node, ast.ImportFrom)}
+                 for name, tree in trees()}
+        while drawn:
+            free = [name for name in drawn if not drawn[name] & set(drawn)]
+            self.assertNotEqual(free, [], drawn)
+            drawn = {name: drawn[name] for name in drawn if name not in free}
 
 
 if __name__ == "__main__":
