@@ -85,9 +85,8 @@ def keep_shorter(waiting, done, steps):
             waiting[left] = found
 
 
-def twins(makers):
-    """Two unlike rows that make the same table, of the shortest word that has such, or None."""
-    words = maker_words(makers)
+def twins_of(words):
+    """Two unlike rows of words that make the same text, the shortest one that has such, or None."""
     # Two rows differ by what the longer text has left; what can come of them hangs on that alone, so for each
     # left-over text the shortest pair is enough, and the one taken first has no shorter way to it.
     done = {}
@@ -102,6 +101,11 @@ def twins(makers):
         done[left] = True
         keep_shorter(waiting, done, next_steps(words, left, found))
     return None
+
+
+def twins(makers):
+    """Two unlike rows that make the same table, of the shortest word that has such, or None."""
+    return twins_of(maker_words(makers))
 
 
 def is_needed(words, number):

@@ -26,26 +26,26 @@ def wide_maker_words(makers):
     return [wide_maker_word(maker) for maker in makers]
 
 
-def found_states(laid):
-    """The states in the order in which they are first found from 0 on, by u, v, U, V."""
-    states = [0]
+def found_states(leads, first):
+    """The states, in the order in which they are found from the first one on by u, v, U, V, with their numbers."""
+    numbers = {first: 0}
+    states = [first]
     at = 0
     while at < len(states):
-        leads = laid[states[at]]
+        ends = leads[states[at]]
         for place in range(4):
-            if place in leads and leads[place][0] not in states:
-                states.append(leads[place][0])
+            if place in ends and ends[place] not in numbers:
+                numbers[ends[place]] = len(states)
+                states.append(ends[place])
         at += 1
-    return states
+    return numbers
 
 
-def numbered(laid):
-    """The graph of laid ways."""
-    states = found_states(laid)
-    numbers = {state: number for number, state in enumerate(states)}
+def numbered(leads, first):
+    """The graph of states that lead, by places, to others; the first one becomes state 0."""
+    numbers = found_states(leads, first)
     # None is no state, so it has no number and stays None.
-    ends = [[laid[state].get(place, (None, []))[0] for place in range(4)] for state in states]
-    return [tuple([numbers.get(end) for end in row]) for row in ends]
+    return [tuple([numbers.get(leads[state].get(place)) for place in range(4)]) for state in numbers]
 
 
 def graph_of(makers):
@@ -53,7 +53,8 @@ def graph_of(makers):
     words = wide_maker_words(makers)
     # Each state lies on the way of a maker's word, which is reduced and closes; so none is to be cut off.
     laid, relations = folded(petals(words, [[] for word in words]))
-    return numbered(laid)
+    leads = {state: {place: laid[state][place][0] for place in laid[state]} for state in laid}
+    return numbered(leads, 0)
 
 
 def closes(graph, word):

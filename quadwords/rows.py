@@ -55,6 +55,11 @@ def least_to_places(words, text):
     return least
 
 
+def reached_places(words, text):
+    """The places of the text to which some row of words comes, rising."""
+    return [place for place, many in enumerate(ways_to_places(words, text)) if many > 0]
+
+
 def least_row(makers, table):
     """The shortest row that makes a table, of these the first, or None."""
     words = maker_words(makers)
@@ -72,5 +77,4 @@ def many_rows(makers, table):
 def reached(makers, table):
     """The places reached of makers and a table, rising."""
     words = maker_words(makers)
-    text = word_of(table)
-    return [place for place, many in enumerate(ways_to_places(words, text)) if many > 0]
+    return reached_places(words, word_of(table))

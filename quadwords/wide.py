@@ -24,22 +24,37 @@ def check_wide_word(text):
         raise NoWord("a wide word has no signs but u, v, U and V")
 
 
+def letters_table(letters):
+    """The table that a text of wide letters makes, however long it is."""
+    return product_of([WIDE_LETTERS[letter] for letter in letters])
+
+
 def wide_table(word):
     """The table that a wide word makes, or NoWord."""
     check_wide_word(word)
-    return product_of([WIDE_LETTERS[letter] for letter in word])
+    return letters_table(word)
 
 
-def reduced(word):
-    """A wide word without the letters that stand beside their backs, or NoWord."""
-    check_wide_word(word)
+def reduced_letters(letters):
+    """A text of wide letters without those that stand beside their backs, however long it is."""
     kept = []
-    for letter in word:
+    for letter in letters:
         if kept and kept[-1] == LETTER_BACKS[letter]:
             kept.pop()
         else:
             kept.append(letter)
     return "".join(kept)
+
+
+def reduced(word):
+    """A wide word without the letters that stand beside their backs, or NoWord."""
+    check_wide_word(word)
+    return reduced_letters(word)
+
+
+def back_letters(letters):
+    """The text of wide letters that makes the back of what another one makes."""
+    return "".join([LETTER_BACKS[letter] for letter in letters[::-1]])
 
 
 def power(letter, many):

@@ -10,6 +10,7 @@ from quadwords.free import leftovers, let_by, needed, same, twins
 from quadwords.plain import table_of
 from quadwords.rows import least_row
 from quadwords.tables import product_of
+from plain_makers import any_text, texts_made
 
 ONE = (1, 0, 0, 1)
 GREAT = 10 ** 200 - 1
@@ -33,10 +34,6 @@ def short_texts(most):
     return ["".join(letters) for many in range(most + 1) for letters in itertools.product("lr", repeat=many)]
 
 
-def any_text(chance, least, most):
-    return "".join(chance.choice("lr") for place in range(chance.randint(least, most)))
-
-
 def some_words(seed, many, most):
     """Lists of words, some of them put together of others."""
     chance = random.Random(seed)
@@ -58,17 +55,6 @@ def great_words(seed, many):
         middles = [(chance.randint(0, 30), chance.randint(0, 9)) for number in range(6)]
         words = ["l" * ahead + "r" + "l" * behind for ahead, behind in middles]
         told.append(words + ["l" * chance.randint(20, 40), any_text(chance, 40, 40)])
-    return told
-
-
-def rows_of_texts(words, most):
-    """By every row: how many rows make each text of at most so many letters."""
-    told = {}
-    level = [""]
-    while level:
-        for text in level:
-            told[text] = told.get(text, 0) + 1
-        level = [text + word for text in level for word in words if len(text + word) <= most]
     return told
 
 
@@ -167,7 +153,7 @@ class Twins(unittest.TestCase):
 
     def test_none_shorter_over_all_short_texts(self):
         for words in some_words(8, 200, 4):
-            told = rows_of_texts(words, 9)
+            told = texts_made(words, 9)
             tied = [len(text) for text in short_texts(9) if told.get(text, 0) > 1]
             found = twins(tables_of(words))
             if tied:
@@ -356,9 +342,9 @@ class Needed(unittest.TestCase):
         for words in some_words(30, 150, 4):
             numbers = needed(tables_of(words))
             kept = [words[number] for number in numbers]
-            self.assertEqual(set(rows_of_texts(kept, 9)), set(rows_of_texts(words, 9)))
+            self.assertEqual(set(texts_made(kept, 9)), set(texts_made(words, 9)))
             for left_out in kept:
-                self.assertNotIn(left_out, rows_of_texts([word for word in kept if word != left_out], 9))
+                self.assertNotIn(left_out, texts_made([word for word in kept if word != left_out], 9))
 
 
 class Same(unittest.TestCase):
@@ -390,14 +376,14 @@ class Same(unittest.TestCase):
                 if without:
                     self.assert_same(words, without, False)
                 other = any_text(chance, 1, 5)
-                alike = set(rows_of_texts(without + [other], 10)) == set(rows_of_texts(kept, 10))
+                alike = set(texts_made(without + [other], 10)) == set(texts_made(kept, 10))
                 self.assert_same(words, without + [other], alike)
 
     def test_by_all_short_texts(self):
         asked = some_words(80, 30, 3)
         for words in asked:
             for others in asked:
-                alike = set(rows_of_texts(words, 6)) == set(rows_of_texts(others, 6))
+                alike = set(texts_made(words, 6)) == set(texts_made(others, 6))
                 self.assertIs(same(tables_of(words), tables_of(others)), alike)
 
 

@@ -9,40 +9,13 @@ from quadwords.errors import NoMakers, NoWide, TooLong
 from quadwords.graphs import bars, closes, graph_of, index, rank
 from quadwords.tables import back, product_of
 from quadwords.wide import reduced, wide_table, wide_word
-from wide_makers import BAD_MAKERS, GREAT, NO_MAKERS, ONE, any_word, some_words, tables_of, turned, words_of_ten
+from wide_makers import (BAD_MAKERS, GREAT, NO_MAKERS, ONE, any_word, by_joining, some_words, tables_of, turned,
+                         words_of_ten)
 
 NO_WAYS = (None, None, None, None)
 # By u: to the other of two states; by v: to the same one.
 TWO_STATES = [(1, 0, 1, 0), (0, 1, 0, 1)]
 EIGHT = ["uu", "v", "uvU", "uuvUU", "uvv", "VuV", "uvUV", "vvvvvvvvvv"]
-
-
-def by_joining(words):
-    """By groups of places in words: those which the same letter leads to from one group are one group."""
-    step = [(k, place, letter) for k, word in enumerate(words) for place, letter in enumerate(word)]
-    name = {(k, place): (0, 0) if place in (0, len(words[k])) else (k, place)
-            for k in range(len(words)) for place in range(len(words[k]) + 1)}
-    steps = [(name[k, place], letter, name[k, place + 1]) for k, place, letter in step]
-    steps += [(end, letter.swapcase(), start) for start, letter, end in steps]
-    while True:
-        leads = {}
-        clash = None
-        for start, letter, end in steps:
-            other = leads.setdefault((start, letter), end)
-            if other != end:
-                clash = (max(other, end), min(other, end))
-        if clash is None:
-            break
-        lost, kept = clash
-        steps = [(kept if a == lost else a, letter, kept if b == lost else b) for a, letter, b in steps]
-    order = [(0, 0)]
-    for group in order:
-        for letter in "uvUV":
-            end = leads.get((group, letter))
-            if end is not None and end not in order:
-                order.append(end)
-    numbers = {group: number for number, group in enumerate(order)}
-    return [tuple(numbers.get(leads.get((group, letter))) for letter in "uvUV") for group in order]
 
 
 def gone(graph, word):

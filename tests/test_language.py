@@ -68,7 +68,7 @@ class Language(unittest.TestCase):
             drawn = {each.name for node in nodes if isinstance(node, ast.ImportFrom) for each in node.names}
             read = {node.id for node in nodes if isinstance(node, ast.Name) and isinstance(node.ctx, ast.Load)}
             self.assertEqual(sorted(bound & (drawn | set(dir(builtins)))), [], name)
-            self.assertEqual([each for each in sorted(bound) if each.startswith("_")], [], name)
+            self.assertEqual([each for each in sorted(bound - {"__init__"}) if each.startswith("_")], [], name)
             self.assertEqual(sorted(read - bound - drawn - set(OWN_OF_PYTHON)), [], name)
 
     def test_is_stands_beside_none_and_truths_alone(self):
@@ -80,7 +80,12 @@ class Language(unittest.TestCase):
                     self.assertTrue(plain, (name, node.lineno))
 
     def test_methods_are_listed_or_own(self):
-        own = {node.name for name, tree in trees() for node in ast.walk(tree) if isinstance(node, ast.FunctionDef)}
+        nodes = [node for name, tree in trees() for node in ast.walk(tree)]
+        own = {each.name for node in nodes if isinstance(node, ast.ClassDef) for each in node.body
+               if isinstance(each, ast.FunctionDef)}
+        values = {node.attr for node in nodes if isinstance(node, ast.Attribute) and isinstance(node.ctx, ast.Store)}
+        self.assertEqual(sorted(own & values), [])
+        own |= values
         for name, tree in trees():
             for node in ast.walk(tree):
                 if isinstance(node, ast.Attribute):
