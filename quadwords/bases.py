@@ -1,6 +1,5 @@
 """Bases: free wide makers that make what others make, and what two lists have in common."""
 
-from quadwords.folds import back_place
 from quadwords.graphs import graph_of, numbered
 from quadwords.wide import back_letters, letters_table, reduced_letters
 
@@ -60,30 +59,13 @@ def common_leads(one, other):
     return leads
 
 
-def cut_off(leads, first):
-    """Take away the states, but the first, that are on the way of no reduced word that closes."""
-    waiting = list(leads)
-    while waiting:
-        state = waiting.pop()
-        # What has but one way can only be left by the way it was come to.
-        if state != first and state in leads and len(leads[state]) == 1:
-            ends = leads.pop(state)
-            for place in ends:
-                leads[ends[place]].pop(back_place(place))
-                waiting.append(ends[place])
-
-
-def common_graph(one, other):
-    """The graph in which a reduced word closes just where it closes in both of two graphs."""
-    leads = common_leads(one, other)
-    cut_off(leads, (0, 0))
-    return numbered(leads, (0, 0))
-
-
 def common(makers, others):
     """The common basis of two lists of wide makers."""
     one = graph_of(makers)
-    return basis_of(common_graph(one, graph_of(others)))
+    leads = common_leads(one, graph_of(others))
+    # Pairs on the way of no reduced word that closes hang on the others like twigs: each way of a twig is one by which
+    # a pair is found first, and none leads back, so the basis is the same with them as without.
+    return basis_of(numbered(leads, (0, 0)))
 
 
 def same_wide(makers, others):

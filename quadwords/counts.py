@@ -2,7 +2,6 @@
 
 from quadwords.errors import NoCount
 from quadwords.rows import maker_words
-from quadwords.tables import is_whole
 
 MOST_LETTERS_OF_ROWS = 400
 MOST_LETTERS_OF_TABLES = 40
@@ -11,8 +10,8 @@ MOST_LETTERS_TOGETHER = 30
 
 
 def check_letters(n, most):
-    """NoCount where n is none of the whole numbers from 0 to the most."""
-    if not is_whole(n) or not 0 <= n <= most:
+    """NoCount where n isn't from 0 to the most."""
+    if not 0 <= n <= most:
         raise NoCount("so many letters are out of bounds")
 
 
@@ -31,7 +30,7 @@ def rests_behind(words, rests, letter):
 
     The rests, here and told, are a tuple, rising, each once; the empty one is there where a row may end.
     """
-    begun = [rest for rest in rests if rest != ""] + (words if "" in rests else [])
+    begun = list(rests) + (words if "" in rests else [])
     return tuple(sorted({rest[1:] for rest in begun if rest.startswith(letter)}))
 
 
@@ -71,8 +70,8 @@ def share(makers):
 
 
 def all_rests(words):
-    """The rests from which a text that is part of some may go on: all that any word can have left."""
-    return tuple(sorted({word[at:] for word in words for at in range(len(word) + 1)}))
+    """The rests that may be to come where a text that is part of another one begins: all that any word can have."""
+    return tuple(sorted({word[at:] for word in words for at in range(len(word))}))
 
 
 def further_rests(words, texts, waiting):

@@ -106,7 +106,12 @@ def rank(makers):
     return len(told) - len(graph) + 1
 
 
+def is_full(graph):
+    """Whether no None is told in a graph."""
+    return not any([None in ends for ends in graph])
+
+
 def index(makers):
     """How many states the graph of wide makers has, or None where it tells some None."""
     graph = graph_of(makers)
-    return None if any([None in ends for ends in graph]) else len(graph)
+    return len(graph) if is_full(graph) else None

@@ -10,10 +10,11 @@ def needed_words(words):
     return sorted([words[number] for number in needed_of(words)])
 
 
-def split_longer(words, twins):
-    """The words with what the longer one of the twins' first words has behind the shorter one in its place."""
-    first, second = sorted([words[twins[0][0]], words[twins[1][0]]], key=len)
-    return [word for word in words if word != second] + [second[len(first):]]
+def left_between(words, twins):
+    """What the longer one of the twins' first words has behind the shorter one."""
+    # The words rise, so the one of the lesser number is the shorter.
+    one, other = twins
+    return words[other[0]][len(words[one[0]]):]
 
 
 def hull_words(words):
@@ -21,8 +22,9 @@ def hull_words(words):
     kept = needed_words(words)
     twins = twins_of(kept)
     while twins is not None:
-        # Whoever is free and makes both twins' text makes what is left between their first words, too.
-        kept = needed_words(split_longer(kept, twins))
+        # Whoever is free and makes the words makes what is left between twins' first words, too; and with that the
+        # longer one of these isn't needed any more, so there are ever fewer letters.
+        kept = needed_words(kept + [left_between(kept, twins)])
         twins = twins_of(kept)
     return kept
 

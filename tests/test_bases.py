@@ -65,7 +65,8 @@ class Basis(unittest.TestCase):
         for words, told in [
                 (["u"], ["u"]), (["U"], ["u"]), (["V", "u"], ["u", "v"]), (["v", "u"], ["u", "v"]), (["uu"], ["uu"]),
                 (["uu", "v", "uvU"], ["v", "uu", "uvU"]), (["Uvu"], ["Uvu"]), (["UVu"], ["Uvu"]), (["uvUV"], ["vuVU"]),
-                (["uv"], ["uv"]), (["VU"], ["uv"]), (["Uv"], ["Uv"]), (["Vu"], ["Uv"]), (["vvv"], ["vvv"]), (["uu", "uuu"], ["u"]),
+                (["uv"], ["uv"]), (["VU"], ["uv"]), (["Uv"], ["Uv"]), (["Vu"], ["Uv"]), (["vvv"], ["vvv"]),
+                (["uu", "uuu"], ["u"]),
                 (["u", "vuV"], ["u", "vuV"]), (["uv", "uV"], ["vU", "uv"]), (["uvv", "VVu"], ["uu", "uvv"])]:
             self.assertEqual(words_of(basis(tables_of(words))), told, words)
 
@@ -305,7 +306,8 @@ class SameWide(unittest.TestCase):
     def test_any_two_lists(self):
         asked = some_words(47, 40) + [["u", "v"], ["v", "U"], ["uu", "v", "uvU"]]
         for one, other in itertools.product(asked, repeat=2):
-            within = [all(closes(by_joining(one), word) for word in other), all(closes(by_joining(other), word) for word in one)]
+            within = [all(closes(by_joining(one), word) for word in other),
+                      all(closes(by_joining(other), word) for word in one)]
             self.assertIs(same_wide(tables_of(one), tables_of(other)), all(within))
 
 
@@ -349,7 +351,8 @@ class Lists(unittest.TestCase):
 
     def test_told_lists_are_the_askers_own(self):
         makers, others = tables_of(["uu", "v", "uvU"]), tables_of(["u", "vv", "vuV"])
-        for asked in [lambda: basis(makers), lambda: common(makers, others), lambda: common(makers, makers), lambda: basis([ONE])]:
+        for asked in [lambda: basis(makers), lambda: common(makers, others), lambda: common(makers, makers),
+                      lambda: basis([ONE])]:
             first = asked()
             kept = list(first)
             again = asked()

@@ -17,9 +17,11 @@ from plain_makers import GREAT, ONE, any_text, full_tree, plain_tables, refused_
 # Makers whose stuck texts have many letters, and makers that have none, though it takes many letters to tell.
 LONG_STUCK = [["rl", "lllrlll", "lr", "lrl", "llll", "rll", "llr", "r"],
               ["lrllrl", "rl", "r", "llrll", "lr", "lll", "llrr", "rrll"],
-              ["l", "lr", "rll", "rlr", "lrr", "rrrr", "rrl", "rrrlrrr"], ["lr", "l", "rrr", "rrlrr", "rl", "lrrlr", "rlrrl"],
+              ["l", "lr", "rll", "rlr", "lrr", "rrrr", "rrl", "rrrlrrr"],
+              ["lr", "l", "rrr", "rrlrr", "rl", "lrrlr", "rlrrl"],
               ["rll", "llrrrlr", "llrll", "lr", "r", "rlrl", "lrllr", "lll"]]
-LONG_NONE = [["lrl", "r", "rrlr", "ll", "lrr", "rlrrlrrlrrlrrlrrl"], ["rlllrlllrlllrlllrl", "llrlll", "lr", "ll", "r", "r"],
+LONG_NONE = [["lrl", "r", "rrlr", "ll", "lrr", "rlrrlrrlrrlrrlrrl"],
+             ["rlllrlllrlllrlllrl", "llrlll", "lr", "ll", "r", "r"],
              ["lrllrllrl", "rllrllrllrllrlrl", "r", "ll", "lr"]]
 FAR = [10 ** 6, GREAT, -GREAT, -10 ** 6]
 
@@ -113,7 +115,8 @@ def stuck_by_windows(words):
 class CountOfRows(unittest.TestCase):
     def test_written_ones(self):
         for words, counts in [(["l"], [1, 1, 1, 1]), (["l", "r"], [1, 2, 4, 8]), (["l", "ll"], [1, 1, 2, 3, 5, 8]),
-                              (["l", "l"], [1, 2, 4, 8]), (["lr"], [1, 0, 1, 0, 1]), (["lrl", "rr"], [1, 0, 1, 1, 1, 2, 2]),
+                              (["l", "l"], [1, 2, 4, 8]), (["lr"], [1, 0, 1, 0, 1]),
+                              (["lrl", "rr"], [1, 0, 1, 1, 1, 2, 2]),
                               (["lr", "l", "rl"], [1, 1, 3, 5, 11])]:
             self.assertEqual([count_of_rows(plain_tables(words), n) for n in range(len(counts))], counts)
 
@@ -126,7 +129,8 @@ class CountOfRows(unittest.TestCase):
         for words in some_plain(2, 25, 4):
             makers = plain_tables(words)
             for n in range(8):
-                self.assertEqual(count_of_rows(makers, n), sum(many_rows(makers, table_of(text)) for text in texts_of(n)))
+                self.assertEqual(count_of_rows(makers, n),
+                                 sum(many_rows(makers, table_of(text)) for text in texts_of(n)))
 
     def test_four_hundred_letters(self):
         for many in range(1, 9):
@@ -209,10 +213,14 @@ class CountOfTables(unittest.TestCase):
 
 class Share(unittest.TestCase):
     def test_written_ones(self):
-        for words, told in [(["l"], (1, 2)), (["l", "r"], (1, 1)), (["l", "l"], (1, 1)), (["l", "rl"], (3, 4)), (["lr"], (1, 4)),
-                            (["l"] * 3, (3, 2)), (["l"] * 8, (4, 1)), (["ll"] * 6, (3, 2)), (["lrl", "l", "rr"], (7, 8)),
-                            (["l" * 40], (1, 2 ** 40)), (["l" * 40, "r" * 39], (3, 2 ** 40)), (["l", "lr" * 20], (2 ** 39 + 1, 2 ** 40)),
-                            (["lr" * 20] * 8, (1, 2 ** 37)), (["l" * 40] * 7, (7, 2 ** 40)), (["r"] * 7 + ["l"], (4, 1))]:
+        for words, told in [(["l"], (1, 2)), (["l", "r"], (1, 1)), (["l", "l"], (1, 1)), (["l", "rl"], (3, 4)),
+                            (["lr"], (1, 4)),
+                            (["l"] * 3, (3, 2)), (["l"] * 8, (4, 1)), (["ll"] * 6, (3, 2)),
+                            (["lrl", "l", "rr"], (7, 8)),
+                            (["l" * 40], (1, 2 ** 40)), (["l" * 40, "r" * 39], (3, 2 ** 40)),
+                            (["l", "lr" * 20], (2 ** 39 + 1, 2 ** 40)),
+                            (["lr" * 20] * 8, (1, 2 ** 37)), (["l" * 40] * 7, (7, 2 ** 40)),
+                            (["r"] * 7 + ["l"], (4, 1))]:
             self.assertEqual(share(plain_tables(words)), told)
 
     def test_in_lowest_terms(self):
@@ -240,8 +248,10 @@ class Share(unittest.TestCase):
 
 class Stuck(unittest.TestCase):
     def test_written_ones(self):
-        for words, told in [(["l"], "r"), (["r"], "l"), (["l", "r"], None), (["lr"], "ll"), (["lr", "rl"], "lll"), (["ll"], "r"),
-                            (["l", "rl"], "rr"), (["l", "rl", "rr"], None), (["l", "r", "lr"], None), (["l", "rlr"], "rrr"),
+        for words, told in [(["l"], "r"), (["r"], "l"), (["l", "r"], None), (["lr"], "ll"), (["lr", "rl"], "lll"),
+                            (["ll"], "r"),
+                            (["l", "rl"], "rr"), (["l", "rl", "rr"], None), (["l", "r", "lr"], None),
+                            (["l", "rlr"], "rrr"),
                             (["ll", "lr", "rl", "rr"], None), (["ll", "rr"], "lrl")]:
             self.assertEqual(stuck(plain_tables(words)), told)
 
@@ -272,7 +282,8 @@ class Stuck(unittest.TestCase):
 
     def test_where_makers_are_free_none_just_where_the_share_is_one(self):
         free = 0
-        for words in some_plain(34, 300, 4) + [["l", "r"], ["l", "rl", "rr"], ["ll", "lr", "r"], ["lll", "llr", "lr", "r"]]:
+        for words in some_plain(34, 300, 4) + [["l", "r"], ["l", "rl", "rr"], ["ll", "lr", "r"],
+                                               ["lll", "llr", "lr", "r"]]:
             makers = plain_tables(words)
             if sum(len(word) for word in words) <= 30 and twins(makers) is None:
                 free += 1
@@ -360,7 +371,8 @@ class Refusals(unittest.TestCase):
 class Lists(unittest.TestCase):
     def test_the_makers_are_as_they_were(self):
         for words in [["lr", "l", "rl", "l"], ["l", "r"]]:
-            for asked in [share, stuck, lambda makers: count_of_rows(makers, 9), lambda makers: count_of_tables(makers, 9)]:
+            for asked in [share, stuck, lambda makers: count_of_rows(makers, 9),
+                          lambda makers: count_of_tables(makers, 9)]:
                 makers = plain_tables(words)
                 first = asked(makers)
                 self.assertEqual(makers, plain_tables(words))

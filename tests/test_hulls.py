@@ -60,7 +60,8 @@ def stable_words(words):
 
 class Hull(unittest.TestCase):
     def test_written_ones(self):
-        for words, told in [(["l"], ["l"]), (["l", "l"], ["l"]), (["lll", "ll"], ["l"]), (["lr", "l", "rl"], ["l", "r"]),
+        for words, told in [(["l"], ["l"]), (["l", "l"], ["l"]), (["lll", "ll"], ["l"]),
+                            (["lr", "l", "rl"], ["l", "r"]),
                             (["r", "l"], ["l", "r"]), (["lrlr", "lrlrlr"], ["lr"]), (["rl", "lr"], ["lr", "rl"]),
                             (["l", "lr"], ["l", "lr"]), (["lr", "lrl", "rlr"], ["l", "r"]),
                             (["lrr", "lr", "rrl", "l"], ["l", "lr", "rr"]), (["ll", "llrr", "rrl", "l"], ["l", "rr"]),
@@ -124,8 +125,10 @@ class Hull(unittest.TestCase):
         self.assertEqual(hull_words(["lr" * 20] * 8), ["lr" * 20])
 
     def test_of_powers_of_one_word(self):
-        for word, powers, both in [("l", [6, 10], 2), ("lr", [4, 6, 9], 1), ("lrr", [2, 4, 8], 2), ("r", [40, 39, 38], 1),
-                                   ("llr", [9, 12], 3), ("lrlrr", [8, 6], 2), ("l", [35, 21, 15], 1), ("rl", [20, 10, 15], 5)]:
+        for word, powers, both in [("l", [6, 10], 2), ("lr", [4, 6, 9], 1), ("lrr", [2, 4, 8], 2),
+                                   ("r", [40, 39, 38], 1),
+                                   ("llr", [9, 12], 3), ("lrlrr", [8, 6], 2), ("l", [35, 21, 15], 1),
+                                   ("rl", [20, 10, 15], 5)]:
             self.assertEqual(hull_words([word * power for power in powers]), [word * both])
             self.assertEqual(hull_words([word * power for power in powers[::-1]] * 2), [word * both])
 

@@ -17,10 +17,37 @@ NODES_OUT = (ast.With, ast.Global, ast.Nonlocal, ast.Yield, ast.YieldFrom, ast.A
 METHODS_OF_PYTHON = ("append clear copy count endswith extend find get index insert items join keys pop remove replace "
                      "reverse setdefault split startswith strip update upper lower values zfill isdigit").split()
 WALKED_AT_ONCE = "zip enumerate reversed range".split()
+WALKS_OF_DICTS = "items keys values".split()
+WALKERS = "list tuple dict sorted sum any all enumerate zip bytes min max".split()
+STATEMENTS = (ast.Assign, ast.AugAssign, ast.If, ast.While, ast.For, ast.Return, ast.Break, ast.Continue, ast.Pass,
+              ast.Raise,
+              ast.Try, ast.Expr, ast.FunctionDef, ast.Assert, ast.Delete)
+AT_THE_TOP = (ast.ImportFrom, ast.FunctionDef, ast.ClassDef, ast.Assign)
+NAMES_OUT = ("register mro elements open input version_info with_traceback add_note attrgetter breakpoint builtins compile "
+             "copyright credits delattr dir eval exec exit gc getattr globals hasattr help id importlib license locals "
+             "methodcaller os quit setattr super vars sys chr frozenset").split()
+KEYWORDS = {"sorted": ["key", "reverse"], "min": ["key", "default"], "max": ["key", "default"], "sum": ["start"],
+            "enumerate": ["start"], "zip": ["strict"]}
 
 
 def trees():
     return [(path.name, ast.parse(path.read_text("ascii"))) for path in FILES]
+
+
+def with_parents():
+    """Each file's nodes, with the node that holds each."""
+    for name, tree in trees():
+        parents = {child: node for node in ast.walk(tree) for child in ast.iter_child_nodes(node)}
+        yield name, tree, parents
+
+
+def called(node):
+    """The name by which a node calls something, or the empty text."""
+    return node.func.id if isinstance(node, ast.Call) and isinstance(node.func, ast.Name) else ""
+
+
+def is_docstring(node):
+    return isinstance(node, ast.Expr) and isinstance(node.value, ast.Constant) and isinstance(node.value.value, str)
 
 
 class Language(unittest.TestCase):
@@ -96,6 +123,114 @@ class Language(unittest.TestCase):
             for node in ast.walk(tree):
                 if isinstance(node, (ast.Assign, ast.Return)) and isinstance(node.value, ast.Call):
                     self.assertNotIn(getattr(node.value.func, "id", ""), WALKED_AT_ONCE, (name, node.lineno))
+
+    def test_walks_stand_where_they_are_walked(self):
+        for name, tree, parents in with_parents():
+            for node in ast.walk(tree):
+                method = node.func.attr if isinstance(node, ast.Call) and isinstance(node.func, ast.Attribute) else ""
+                if called(node) in WALKED_AT_ONCE or method in WALKS_OF_DICTS:
+                    above = parents[node]
+                    walked = isinstance(above, (ast.For, ast.comprehension)) and above.iter is node
+                    self.assertTrue(walked or called(above) in WALKERS, (name, node.lineno))
+
+    def test_sets_stand_within_sorted_or_len_or_behind_in(self):
+        for name, tree, parents in with_parents():
+            for node in ast.walk(tree):
+                if isinstance(node, (ast.Set, ast.SetComp)) or called(node) == "set":
+                    above = parents[node]
+                    asked = isinstance(above, ast.Compare) and isinstance(above.ops[0], (ast.In, ast.NotIn))
+                    self.assertTrue(asked or called(above) in ["sorted", "len"], (name, node.lineno))
+
+    def test_the_top_of_a_file(self):
+        for name, tree in trees():
+            self.assertTrue(is_docstring(tree.body[0]), name)
+            self.assertTrue(all(isinstance(node, AT_THE_TOP) for node in tree.body[1:]), name)
+            bound = []
+            for node in tree.body[1:]:
+                bound += [each.name for each in node.names] if isinstance(node, ast.ImportFrom) else []
+                bound += [node.name] if isinstance(node, (ast.FunctionDef, ast.ClassDef)) else []
+                bound += [each.id for each in node.targets] if isinstance(node, ast.Assign) else []
+            self.assertEqual(len(set(bound)), len(bound), name)
+
+    def test_statements_and_parameters(self):
+        for name, tree in trees():
+            for node in ast.walk(tree):
+                if isinstance(node, ast.FunctionDef):
+                    rows = [each for each in ast.walk(node) if isinstance(each, ast.stmt)]
+                    self.assertTrue(all(isinstance(each, STATEMENTS) for each in rows), (name, node.name))
+                    args = node.args
+                    self.assertEqual((args.vararg, args.kwarg, args.posonlyargs, args.defaults), (None, None, [], []),
+                                     name)
+                if isinstance(node, (ast.For, ast.While)):
+                    self.assertEqual(node.orelse, [], (name, node.lineno))
+
+    def test_classes_hold_methods_alone(self):
+        for name, tree in trees():
+            for node in ast.walk(tree):
+                if isinstance(node, ast.ClassDef):
+                    self.assertLessEqual(len(node.bases), 1, (name, node.name))
+                    self.assertEqual((node.keywords, node.decorator_list), ([], []), (name, node.name))
+                    held = [each for each in node.body if not is_docstring(each)]
+                    self.assertTrue(all(isinstance(each, ast.FunctionDef) for each in held), (name, node.name))
+
+    def test_names_that_are_not_used(self):
+        for name, tree in trees():
+            for node in ast.walk(tree):
+                found = [getattr(node, field, None) for field in ["id", "attr", "name", "arg"]]
+                self.assertEqual([each for each in found if each in NAMES_OUT], [], (name, getattr(node, "lineno", 0)))
+
+    def test_values_and_powers(self):
+        for name, tree in trees():
+            for node in ast.walk(tree):
+                if isinstance(node, ast.Constant):
+                    self.assertIsInstance(node.value, (int, str, type(None)), (name, node.lineno))
+                    self.assertNotIn("%", str(node.value), (name, node.lineno))
+                if isinstance(node, ast.Starred):
+                    self.assertIsInstance(node.ctx, ast.Store, (name, node.lineno))
+                if isinstance(node, ast.BinOp) and isinstance(node.op, ast.Pow):
+                    self.assertIsInstance(node.right, ast.Constant, (name, node.lineno))
+                    self.assertIn(node.right.value, range(65), (name, node.lineno))
+                if isinstance(node, ast.FormattedValue):
+                    self.assertIsNone(node.format_spec, (name, node.lineno))
+                    texts = [each for each in ast.walk(node) if isinstance(each, (ast.Constant, ast.JoinedStr))]
+                    self.assertFalse([each for each in texts if not isinstance(getattr(each, "value", ""), int)], name)
+
+    def test_keywords_are_those_of_pythons_own(self):
+        for name, tree in trees():
+            for node in ast.walk(tree):
+                if isinstance(node, ast.Call):
+                    keywords = [each.arg for each in node.keywords]
+                    self.assertEqual([each for each in keywords if each not in KEYWORDS.get(called(node), [])], [],
+                                     (name, node.lineno))
+
+    def test_names_are_drawn_from_the_files_that_define_them(self):
+        for name, tree in trees():
+            for node in ast.walk(tree):
+                if isinstance(node, ast.ImportFrom):
+                    file = dict(trees())[node.module.split(".")[1] + ".py"]
+                    held = {each.name for each in file.body if isinstance(each, (ast.FunctionDef, ast.ClassDef))}
+                    held |= {target.id for each in file.body if isinstance(each, ast.Assign) for target in each.targets}
+                    self.assertTrue(all(each.name in held and each.asname is None for each in node.names),
+                                    (name, node.module))
+
+    def test_what_a_loop_walks_is_not_changed_in_it(self):
+        changes = ["append", "clear", "extend", "insert", "pop", "remove", "reverse", "setdefault", "update"]
+        for name, tree in trees():
+            for loop in ast.walk(tree):
+                if isinstance(loop, ast.For):
+                    walked = {each.id for each in ast.walk(loop.iter) if isinstance(each, ast.Name)} - set(WALKERS) - {"range", "len"}
+                    for node in [each for row in loop.body for each in ast.walk(row)]:
+                        if isinstance(node,
+                                      ast.Call) and isinstance(node.func, ast.Attribute) and node.func.attr in changes:
+                            self.assertNotIn(getattr(node.func.value, "id", ""), walked, (name, node.lineno))
+                        if isinstance(node, ast.Subscript) and isinstance(node.ctx, (ast.Store, ast.Del)):
+                            self.assertNotIn(getattr(node.value, "id", ""), walked, (name, node.lineno))
+
+    def test_every_name_that_is_drawn_is_used(self):
+        for name, tree in trees():
+            drawn = {each.name for node in ast.walk(tree) if isinstance(node, ast.ImportFrom) for each in node.names}
+            read = {node.id for node in ast.walk(tree) if isinstance(node, ast.Name)}
+            self.assertEqual(sorted(drawn - read), [], name)
 
     def test_no_two_files_draw_from_one_another(self):
         drawn = {name[:-3]: {node.module.split(".")[1] for node in ast.walk(tree) if isinstance(node, ast.ImportFrom)}

@@ -11,7 +11,8 @@ from quadwords.rows import least_row, many_rows, reached
 from quadwords.tables import product_of
 from plain_makers import GREAT, ONE, any_text, plain_tables, refused_plain, some_plain
 
-NOT_PLAIN = [(0, 0, 0, 0), (1, -1, 0, 1), (-1, 0, 0, -1), (2, 0, 0, 1), (0, 1, 1, 0), (GREAT, 0, 0, GREAT), (1, -GREAT, 0, 1)]
+NOT_PLAIN = [(0, 0, 0, 0), (1, -1, 0, 1), (-1, 0, 0, -1), (2, 0, 0, 1), (0, 1, 1, 0), (GREAT, 0, 0, GREAT),
+             (1, -GREAT, 0, 1)]
 TOO_LONG = [(1, 401, 0, 1), (1, 0, 401, 1), (1, GREAT, 0, 1), (1, 0, GREAT, 1)]
 
 

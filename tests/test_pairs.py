@@ -5,14 +5,18 @@ import random
 import unittest
 
 from quadwords.bases import basis, common, same_wide
+from quadwords.desk import Desk
 from quadwords.free import needed, same, twins
 from quadwords.graphs import bars, closes, graph_of, rank
 from quadwords.hulls import hull
 from quadwords.mills import Mill
+from quadwords.moves import all_within, moves
 from quadwords.plain import is_plain, table_of, word_of
+from quadwords.roots import root_of, turner
 from quadwords.rows import least_row
 from quadwords.signed import relation, row_made, signed_row
 from quadwords.tables import product_of
+from quadwords.texts import table_text
 from quadwords.wide import is_wide, wide_table, wide_word
 
 
@@ -126,6 +130,35 @@ class Pairs(unittest.TestCase):
             self.assertTrue(all(is_wide(table) for table in told))
             if all(len(wide_word(table)) <= 10 for table in told):
                 self.assertTrue(all(closes(graph_of(told), text) for text in texts))
+
+    def test_what_plain_makers_make_is_within_wide_ones(self):
+        chance = random.Random(8)
+        for texts in some_texts(9, 150, 4):
+            makers = tables_of(texts)
+            made = ["".join(chance.choice(texts) for place in range(chance.randint(0, 3))) for number in range(8)]
+            others = tables_of([text for text in made if len(text) <= 10] + [""])[:8]
+            self.assertIs(all_within(makers, others), True)
+            kept = [makers[number] for number in needed(makers)]
+            self.assertIs(all_within(makers, kept) and all_within(kept, makers), True)
+            self.assertEqual(moves(makers), moves(kept))
+
+    def test_roots_and_turners_of_pairs(self):
+        chance = random.Random(10)
+        for each in range(100):
+            text, many = any_text(chance, 1, 9), chance.randint(1, 12)
+            root, times = root_of(table_of(doubled(text * many)))
+            self.assertEqual(word_of(root) * times, doubled(text * many))
+            self.assertEqual(times % many, 0)
+            round_text = text[1:] + text[0]
+            self.assertIsNotNone(turner(table_of(doubled(text)), table_of(doubled(round_text))))
+
+    def test_a_desk_tells_of_pairs(self):
+        desk = Desk()
+        for name, text in [("a", "u"), ("b", "vu"), ("c", "uvuu")]:
+            desk.say(f"put {name} {table_text(table_of(doubled(text)))}")
+        told = desk.say("show c")
+        self.assertEqual([desk.say(row) for row in ["word c", "wide c", f"made {told} a b", f"within {told} a b"]],
+                         ["rrllrrrr", "uvuu", "0,1,0", "yes"])
 
     def test_a_mill_reads_pairs(self):
         mill = Mill(tables_of(["u", "vu"]))
